@@ -1,0 +1,1 @@
+"""Waitworks: works that wait for one another."""
