@@ -46,6 +46,13 @@ def is_link(value):
     return isinstance(first, str) and isinstance(then, str) and is_number(marks) and is_number(lasts)
 
 
+def are_pairs(value, names):
+    """Whether this is a tuple of a pair of a name and an integer for each of these names, in order."""
+    if not is_tuple_of(value, len(names)):
+        return False
+    return all([is_tuple_of(pair, 2) and pair[0] == name and is_integer(pair[1]) for pair, name in zip(value, names)])
+
+
 def is_number_word(word, most):
     """Whether this string is decimal digits without leading zeros, so many at most."""
     if not 1 <= len(word) <= most or (word[0] == "0" and len(word) > 1):

@@ -1,6 +1,6 @@
 """Rate papers: a ring, and heights that show that none is slower."""
 
-from waitworks.kinds import is_integer, is_tuple_of
+from waitworks.kinds import are_pairs, is_tuple_of
 from waitworks.rates import feeders_and_links
 from waitworks.rings import gains, heights_or_ring, is_ring, ratio, slowest_ring
 
@@ -18,21 +18,14 @@ def rate_holds(house, name, place, value):
     """Whether any value is a right paper for the rate of a place."""
     feeders, numbered = feeders_and_links(house, name, place)
     links = [link for _, link in numbered]
-    if not is_tuple_of(value, 2) or not is_tuple_of(value[1], len(feeders)):
+    if not is_tuple_of(value, 2) or not are_pairs(value[1], feeders):
         return False
     ring, pairs = value
-    if not all([_is_height(pair, feeder) for pair, feeder in zip(pairs, feeders)]):
-        return False
     if not is_tuple_of(ring, 0) and not is_ring(ring, links):
         return False
     heights = dict(pairs)
     weights = gains(links, _pace_of(ring))
     return all([heights[link[1]] >= heights[link[0]] + weight for link, weight in zip(links, weights)])
-
-
-def _is_height(pair, place):
-    """Whether this is a pair of this place and an integer."""
-    return is_tuple_of(pair, 2) and isinstance(pair[0], str) and pair[0] == place and is_integer(pair[1])
 
 
 def _pace_of(ring):

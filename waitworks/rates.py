@@ -45,11 +45,11 @@ def paces(house, name):
 
 
 def feeders_and_links(house, name, place):
-    """The places that feed a place, ascending, and the pairs of a number and a link between them."""
+    """The places that feed a place, ascending, and the pairs of a number and a link to one (and so from one)."""
     places, links = house.flat(name)
     check_place(place, places)
     fed = feeding(links, place)
-    numbered = [(at, link) for at, link in enumerate(links) if link[0] in fed and link[1] in fed]
+    numbered = [(at, link) for at, link in enumerate(links) if link[1] in fed]
     return sorted(list(fed)), numbered
 
 

@@ -190,11 +190,7 @@ def first_above(one, other):
 
 
 def last_above(one, other):
-    """The least place from which on the one row is nowhere above the other one, or None."""
-    if is_empty(one):
-        return 0
-    if is_empty(other):
-        return None
+    """The least place from which on the one row (neither empty) is nowhere above the other one, or None."""
     begin, turn, grow, gaps = gaps_between(one, other)
     if grow > 0 or (grow == 0 and max(gaps) > 0):
         return None
