@@ -1,8 +1,10 @@
 """What the tests hold the program against: the words of the document, done by hand for the first goings."""
 
 from waitworks.errors import NeverGoes
+from waitworks.faces import face
 from waitworks.houses import House, Module
 from waitworks.rows import Row
+from waitworks.sums import behind, star
 
 SHOP = Module(
     "shop", ["order"], ["done"], ["cut", "fold"],
@@ -131,3 +133,65 @@ def feeders_by_hand(links, place):
         if not more:
             return fed
         fed |= more
+
+
+def busy_house(rng, inlets=("i", "j"), outlets=("o", "p"), stations=3, more=4, lasts=5, marks=2, name="m", ahead=(), loose=0.0):
+    """A house by chance whose last module has these inlets and outlets, and links from and to (nearly) all of its places."""
+    inlets, outlets, at = list(inlets), list(outlets), list("stuvw"[:stations])
+    while True:
+        begins, ends = inlets + at, at + outlets
+        if not begins or not ends:
+            return House([*ahead, Module(name, inlets, outlets, at, [])])
+        pairs = [(begin, rng.choice(ends)) for begin in begins] + [(rng.choice(begins), end) for end in ends]
+        pairs += [(rng.choice(begins), rng.choice(ends)) for _ in range(more)]
+        pairs = [pair for pair in pairs if rng.random() >= loose]
+        ways = [(begin, end, rng.randint(0, marks), rng.randint(0, lasts)) for begin, end in pairs]
+        try:
+            return House([*ahead, Module(name, inlets, outlets, at, ways)])
+        except NeverGoes:
+            pass
+
+
+def some_face(rng, **limits):
+    """A face by chance."""
+    return face(busy_house(rng, **limits), limits.get("name", "m"))
+
+
+def sums_by_hand(one, other, many):
+    """The first greatest sums of a thing of the one row at i and a thing of the other one at n - i."""
+    one, other = things(one, many), things(other, many)
+    found = []
+    for n in range(many):
+        sums = [one[i] + other[n - i] for i in range(n + 1) if one[i] is not None and other[n - i] is not None]
+        found.append(max(sums, default=None))
+    return found
+
+
+def out_by_hand(told, arrivals, many):
+    """The first goings of all outlets of a face, by its words."""
+    found = []
+    for rows, clock in zip(told.rows, told.clock):
+        led = [sums_by_hand(row, came, many) for row, came in zip(rows, arrivals)]
+        found.append([max([clock.time(n)] + [some[n] for some in led if some[n] is not None]) for n in range(many)])
+    return found
+
+
+def some_contract(rng, low=0):
+    """A contract by chance."""
+    many = rng.randint(1, 4)
+    times = sorted([rng.randint(low, 9) for _ in range(many)])
+    return star(Row([None] * rng.randint(1, 3), times, times[-1] - times[0] + rng.randint(0, 5)))
+
+
+def kept_arrivals(rng, contract, many=12):
+    """Arrivals by chance that keep a contract: what it makes of some first goings."""
+    first = sorted([rng.randint(0, 20) for _ in range(rng.randint(1, many))])
+    return behind(contract, Row(first, [first[-1]]))
+
+
+def error_of(case, kind, ask, *given):
+    """The error of this kind that a call raises."""
+    with case.assertRaises(kind) as caught:
+        ask(*given)
+    case.assertIs(type(caught.exception), kind)
+    return caught.exception

@@ -2,17 +2,25 @@
 
 from waitworks.errors import InvalidArrivals, NoPlace
 from waitworks.kinds import is_one_of, is_sequence
+from waitworks.nets import net_solved
 from waitworks.rows import Row, unit
-from waitworks.solving import solved
 
 
 def check_arrivals(arrivals, inlets):
     """Refuse what are no arrivals for these inlets."""
+    at = wrong_arrival(arrivals, inlets)
+    if at is not None:
+        raise InvalidArrivals(at)
+
+
+def wrong_arrival(arrivals, inlets):
+    """The index of the first thing that is wrong in arrivals for these inlets, 0 for none at all, else None."""
     if not is_sequence(arrivals) or len(arrivals) != len(inlets):
-        raise InvalidArrivals(0)
+        return 0
     for at, row in enumerate(arrivals):
         if not isinstance(row, Row) or row.time(0) is None or row.time(0) < 0:
-            raise InvalidArrivals(at)
+            return at
+    return None
 
 
 def check_place(place, places):
@@ -28,6 +36,12 @@ def course(house, name, arrivals):
     return _rows_with(house, module, arrivals, [])
 
 
+def sums_from(house, name, place):
+    """The greatest sums of lasts on ways from a place to each place, by how many marks these have at most: a dict."""
+    places, links = house.flat(name)
+    return net_solved(places, links, [], [(place, unit())])
+
+
 def late_course(house, name, arrivals, lates):
     """The rows of all places in the run, and those with late goings."""
     rows = course(house, name, arrivals)
@@ -41,9 +55,9 @@ def late_course(house, name, arrivals, lates):
 def _rows_with(house, module, arrivals, held):
     """The rows of all places that wait for their links, and for these rows, too."""
     places, links = house.flat(module.name)
-    coming = [(place, unit()) for place in places if place not in module.inlets]
+    # What waits for a going with the same number is not ahead of 0 by this alone.
+    later_ones = {then: True for _, then, marks, _ in links if marks == 0}
+    coming = [(place, unit()) for place in places if place not in module.inlets and place not in later_ones]
     coming.extend(list(zip(module.inlets, arrivals)))
     coming.extend(held)
-    # What comes from outside gets numbers for names, which no place has.
-    outside = [(at, place, 0, 0) for at, (place, _) in enumerate(coming)]
-    return solved(places, [*links, *outside], {at: row for at, (_, row) in enumerate(coming)})
+    return net_solved(places, links, [], coming)

@@ -1,7 +1,7 @@
 """Rates: how fast places go in the long run, and which ring holds them up."""
 
 from waitworks.courses import check_place
-from waitworks.rings import feeding, gains, on_slowest_rings, ratio, slowest_ring
+from waitworks.rings import feeding, gains, highest_ways, on_slowest_rings, ratio, slowest_ring
 
 
 def rate(house, name, place):
@@ -34,7 +34,7 @@ def room_for(house, name, place, at):
     if then not in feeders or then not in feeding(links, first):
         return None
     top, bottom = ratio(slowest_ring(feeders, links))
-    longest = _longest_way(feeders, links, gains(links, (top, bottom)), then, first)
+    longest = highest_ways({then: 0}, links, gains(links, (top, bottom)))[0][first]
     return (top * marks - bottom * lasts - longest) // bottom
 
 
@@ -51,14 +51,3 @@ def feeders_and_links(house, name, place):
     fed = feeding(links, place)
     numbered = [(at, link) for at, link in enumerate(links) if link[1] in fed]
     return sorted(list(fed)), numbered
-
-
-def _longest_way(places, links, weights, first, then):
-    """The greatest sum of weights on ways from one place to another one, where no ring gains."""
-    longest = {first: 0}
-    for _ in places:
-        for link, weight in zip(links, weights):
-            if link[0] in longest:
-                reached = longest[link[0]] + weight
-                longest[link[1]] = max(reached, longest.get(link[1], reached))
-    return longest[then]

@@ -10,12 +10,25 @@ from waitworks.kinds import in_lowest_terms, is_link
 
 def feeding(links, place):
     """The places from which a way of these links leads to this one, itself ahead: a dict."""
+    return _leading_to(place, _firsts_of(links))
+
+
+def _firsts_of(links):
+    """For each place to which links lead, the places where they begin, each once."""
+    found = {}
+    for first, then in {(link[0], link[1]): True for link in links}:
+        found.setdefault(then, []).append(first)
+    return found
+
+
+def _leading_to(place, firsts):
+    """The places from which a way leads to this one, itself ahead: a dict."""
     found = {place: True}
     waiting = [place]
     while len(waiting) > 0:
         here = waiting.pop()
-        for first, then, _, _ in links:
-            if then == here and first not in found:
+        for first in firsts.get(here, []):
+            if first not in found:
                 found[first] = True
                 waiting.append(first)
     return found
@@ -23,8 +36,9 @@ def feeding(links, place):
 
 def parts(places, links):
     """Lists of the places that feed one another, each behind those that feed it."""
-    inner = [link for link in links if link[0] in places and link[1] in places]
-    feeders = {place: feeding(inner, place) for place in places}
+    here = {place: True for place in places}
+    firsts = _firsts_of([link for link in links if link[0] in here and link[1] in here])
+    feeders = {place: _leading_to(place, firsts) for place in places}
     order = sorted([(len(feeders[place]), at) for at, place in enumerate(places)])
     done = {}
     found = []
@@ -84,6 +98,8 @@ def gains(links, pace):
 def heights_or_ring(places, links, weights):
     """(heights, ()), the greatest sums of weights on ways to places, or (None, some ring of a sum above 0)."""
     heights = {place: 0 for place in places}
+    if len(links) == 0:
+        return heights, ()
     came = {}
     changed = []
     for _ in places:
@@ -109,6 +125,36 @@ def _ring_back(place, came):
         ring.append(came[ring[-1][0]])
     ring.reverse()
     return tuple(ring)
+
+
+def highest_ways(start, links, weights):
+    """The greatest sums of what places have at the start and of weights on ways from there (no ring gains): a dict.
+
+    And the last links of such ways, without those of no links: another dict.
+    """
+    heights = dict(start)
+    came = {}
+    changed = True
+    while changed:
+        changed = False
+        for link, weight in zip(links, weights):
+            first, then, _, _ = link
+            if first in heights and (then not in heights or heights[first] + weight > heights[then]):
+                heights[then] = heights[first] + weight
+                came[then] = link
+                changed = True
+    return heights, came
+
+
+def way_to(place, came):
+    """The way to a place by the last links of ways."""
+    way = []
+    here = place
+    while here in came:
+        way.append(came[here])
+        here = came[here][0]
+    way.reverse()
+    return tuple(way)
 
 
 def slowest_ring(places, links):
@@ -157,10 +203,15 @@ def _shared_marks(place, links):
 
 def is_ring(value, links):
     """Whether any value is a ring of these links."""
-    if not isinstance(value, tuple) or len(value) == 0:
+    if not isinstance(value, tuple) or len(value) == 0 or not is_link(value[0]):
         return False
-    if not all([is_link(link) and link in links for link in value]):
+    return is_way(value, value[0][0], links) and value[-1][1] == value[0][0]
+
+
+def is_way(value, place, links):
+    """Whether any value is a way of these links from a place, perhaps of none."""
+    if not isinstance(value, tuple) or not all([is_link(link) and link in links for link in value]):
         return False
     begins = [link[0] for link in value]
-    ends = [link[1] for link in value]
-    return len(set(begins)) == len(begins) and ends == [*begins[1:], begins[0]]
+    reached = [place, *[link[1] for link in value]]
+    return len(set(begins)) == len(begins) and begins == reached[:-1]

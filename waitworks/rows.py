@@ -96,19 +96,19 @@ def _shortest_turn(again, more):
     whole = len(again)
     for turn in range(1, whole):
         if whole % turn == 0 and more * turn % whole == 0:
-            if list(again[turn:]) == _all_later(again[:whole - turn], more * turn // whole):
+            if list(again[turn:]) == all_later(again[:whole - turn], more * turn // whole):
                 return turn
     return whole
 
 
-def _all_later(things, lasts):
+def all_later(things, lasts):
     """These times, so much later; nothing stays nothing."""
     return [None if thing is None else thing + lasts for thing in things]
 
 
 def _shortest_first(things, begin, turn, grow):
     """The least place from which on these things come again in such turns."""
-    while begin > 0 and [things[begin - 1 + turn]] == _all_later([things[begin - 1]], grow):
+    while begin > 0 and [things[begin - 1 + turn]] == all_later([things[begin - 1]], grow):
         begin -= 1
     return begin
 
@@ -164,8 +164,15 @@ def nothings(row):
 
 def later(row, marks, lasts):
     """The row that has at n what this one has at n - marks, and lasts more."""
-    first = [*[None] * marks, *_all_later(row.first, lasts)]
-    return Row(first, _all_later(row.again, lasts), row.more)
+    first = [*[None] * marks, *all_later(row.first, lasts)]
+    return Row(first, all_later(row.again, lasts), row.more)
+
+
+def from_going(row, n):
+    """The row of the goings from the n-th one on."""
+    first = row.first[n:]
+    begin = n + len(first)
+    return Row(first, [row.time(begin + at) for at in range(len(row.again))], row.more)
 
 
 def is_at_most(one, other):

@@ -26,6 +26,9 @@ def _rows_of_part(part, links, rows):
     """The rows of places that feed one another, with the links that come to them."""
     if all([link[0] in part for link in links]):
         return {place: empty() for place in part}
+    if len(links) == 1:
+        first, then, marks, lasts = links[0]
+        return {then: later(rows[first], marks, lasts)}
     walk = Walk(part, links, rows)
     wait = 0
     while True:

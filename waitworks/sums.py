@@ -4,6 +4,7 @@ from math import lcm
 
 from waitworks.errors import InvalidRow
 from waitworks.kinds import is_less
+from waitworks.nets import ladder
 from waitworks.rows import Row, empty, growth, is_empty, last_above, unit
 from waitworks.solving import solved
 
@@ -44,7 +45,23 @@ def behind(one, other):
     short, long = one, other
     if len(one.first) + len(one.again) > len(other.first) + len(other.again):
         short, long = other, one
-    return solved(["sum", "turn"], _ladder(short, "long", "sum"), {"long": long})["sum"]
+    turns, links = ladder(short, "long", "sum", "turn")
+    return solved(["sum", *turns], links, {"long": long})["sum"]
+
+
+def sum_at(one, other, n):
+    """What the one row behind the other one has at n."""
+    if is_empty(one) or is_empty(other):
+        return None
+    quick, slow = one, other
+    if is_less(one.rate, other.rate):
+        quick, slow = other, one
+    # So many goings farther the quick one gains at least what the slow one does: few places of that one count.
+    few = len(slow.first) + lcm(len(slow.again), len(quick.again))
+    places = list(range(min(n + 1, few)))
+    places.extend(list(range(max(few, n + 1 - len(quick.first)), n + 1)))
+    pairs = [(quick.time(n - at), slow.time(at)) for at in places]
+    return max([time + rest for time, rest in pairs if time is not None and rest is not None], default=None)
 
 
 def star(row):
@@ -52,8 +69,8 @@ def star(row):
     time = row.time(0)
     if time is not None and time > 0:
         raise InvalidRow("first")
-    links = [("unit", "sum", 0, 0), *_ladder(_without_start(row), "sum", "sum")]
-    return solved(["sum", "turn"], links, {"unit": unit()})["sum"]
+    turns, links = ladder(_without_start(row), "sum", "sum", "turn")
+    return solved(["sum", *turns], [("unit", "sum", 0, 0), *links], {"unit": unit()})["sum"]
 
 
 def _without_start(row):
@@ -61,13 +78,3 @@ def _without_start(row):
     if len(row.first) > 0:
         return Row([None, *row.first[1:]], row.again, row.more)
     return Row([None], [row.time(n) for n in range(1, len(row.again) + 1)], row.more)
-
-
-def _ladder(row, first, then):
-    """Links by which `then` has what `first` has behind this row: what comes again goes around one ring."""
-    if is_empty(row):
-        return []
-    begin = len(row.first)
-    steps = [(first, then, n, time) for n, time in enumerate(row.first) if time is not None]
-    turns = [(first, "turn", n, time) for n, time in enumerate(row.again, start=begin)]
-    return [*steps, *turns, ("turn", "turn", len(row.again), row.more), ("turn", then, 0, 0)]

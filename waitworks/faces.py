@@ -1,0 +1,103 @@
+"""Faces: what modules are from outside."""
+
+from waitworks.courses import check_arrivals, course, sums_from
+from waitworks.errors import NeverGoes
+from waitworks.nets import net_solved
+from waitworks.rings import ring_without_marks
+from waitworks.rows import unit
+from waitworks.sums import sum_at
+
+
+class Face:
+    """For each outlet its clock, and how it goes behind each inlet; made by functions of this package."""
+
+    def __init__(self, inlets, outlets, rows, clock):
+        self.inlets = tuple(inlets)
+        self.outlets = tuple(outlets)
+        self.rows = tuple([tuple(some) for some in rows])
+        self.clock = tuple(clock)
+
+    def __eq__(self, other):
+        if not isinstance(other, Face):
+            return False
+        if self.inlets != other.inlets or self.outlets != other.outlets:
+            return False
+        return self.rows == other.rows and self.clock == other.clock
+
+
+def face(house, name):
+    """The face of a module."""
+    module = house[name]
+    answers = [sums_from(house, name, inlet) for inlet in module.inlets]
+    rest = course(house, name, [unit()] * len(module.inlets))
+    return _told(module.inlets, module.outlets, answers, rest)
+
+
+def _told(inlets, outlets, answers, rest):
+    """The face with these rows at outlets: those that answer each inlet, and those of the clock."""
+    rows = [[answer[outlet] for answer in answers] for outlet in outlets]
+    return Face(inlets, outlets, rows, [rest[outlet] for outlet in outlets])
+
+
+def out(face, arrivals):
+    """The goings of all outlets: a row for each."""
+    check_arrivals(arrivals, face.inlets)
+    rows = _led_through(face, arrivals, face.clock)
+    return tuple([rows[outlet] for outlet in face.outlets])
+
+
+def _led_through(face, rows, clock):
+    """What outlets have of rows at the inlets, and of a clock (if there are any of both): a dict."""
+    doors = [f"in {at}" for at in range(len(face.inlets))]
+    ways = []
+    for outlet, parts in zip(face.outlets, face.rows):
+        ways.extend([(door, outlet, part) for door, part in zip(doors, parts)])
+    coming = [*list(zip(doors, rows)), *list(zip(face.outlets, clock))]
+    return net_solved([*doors, *face.outlets], [], ways, coming)
+
+
+def going_out(face, arrivals, at, n):
+    """The n-th going of the outlet with this number."""
+    sums = [sum_at(row, came, n) for row, came in zip(face.rows[at], arrivals)]
+    return max([face.clock[at].time(n), *[time for time in sums if time is not None]])
+
+
+def in_row(one, other):
+    """The face of both, with the outlets of the one as inlets of the other."""
+    answers = []
+    for at in range(len(one.inlets)):
+        answers.append(_led_through(other, [rows[at] for rows in one.rows], ()))
+    rest = _led_through(other, one.clock, other.clock)
+    return _told(one.inlets, other.outlets, answers, rest)
+
+
+def face_with(house, name, faces):
+    """The face of a module whose calls have other faces: pairs of a label and a face; the other calls stay."""
+    module = house[name]
+    called = _faces_of_calls(house, module, faces)
+    ways = []
+    clocks = []
+    for label, part in called:
+        ends = [f"{label}.{inlet}" for inlet in part.inlets]
+        for outlet, rows, clock in zip(part.outlets, part.rows, part.clock):
+            ways.extend([(end, f"{label}.{outlet}", row) for end, row in zip(ends, rows)])
+            clocks.append((f"{label}.{outlet}", clock))
+    places = sorted([*module.inlets, *module.outlets, *module.stations, *_ends_of_calls(called)])
+    at_once = [(first, then, 0, 0) for first, then, row in ways if row.time(0) is not None]
+    ring = ring_without_marks(places, [*module.links, *at_once])
+    if len(ring) > 0:
+        raise NeverGoes(ring)
+    answers = [net_solved(places, module.links, ways, [(inlet, unit())]) for inlet in module.inlets]
+    coming = [*[(place, unit()) for place in places], *clocks]
+    return _told(module.inlets, module.outlets, answers, net_solved(places, module.links, ways, coming))
+
+
+def _faces_of_calls(house, module, faces):
+    """The pairs of a label and the face of what is called there, for all calls."""
+    told = dict(list(faces))
+    return [(label, told[label] if label in told else face(house, name)) for label, name in module.calls]
+
+
+def _ends_of_calls(called):
+    """The inlets and outlets of all calls."""
+    return [f"{label}.{end}" for label, part in called for end in [*part.inlets, *part.outlets]]
