@@ -3,11 +3,12 @@
 import random
 import unittest
 
+from waitworks.errors import InvalidArrivals, NoPlace
 from waitworks.houses import House, Module
 from waitworks.reasons import chain, chain_holds
 from waitworks.rows import Row, unit
 
-from models import ANY_VALUES, HOUSE, flat_by_hand, some_arrivals, some_house, walk
+from models import ANY_VALUES, HOUSE, error_of, flat_by_hand, some_arrivals, some_house, walk
 
 
 class ChainTest(unittest.TestCase):
@@ -125,6 +126,34 @@ class ChainTest(unittest.TestCase):
                     step = some[at][:k] + (value,) + some[at][k + 1:]
                     if step != some[at] or isinstance(value, bool):
                         self.assertIs(chain_holds(HOUSE, "shop", [unit()], "done", 1, some[:at] + (step,) + some[at + 1:]), False)
+
+    def test_order_of_errors(self):
+        for value in (*ANY_VALUES, (("done", 1, 9),)):
+            for bad in ANY_VALUES:
+                if bad not in ("shop", "two"):
+                    self.assertIs(error_of(self, NoPlace, chain_holds, HOUSE, bad, None, None, 1, value).name, bad)
+                if bad != [Row((), (0,))]:
+                    self.assertEqual(error_of(self, InvalidArrivals, chain_holds, HOUSE, "shop", bad, None, 1, value).at, 0)
+                if bad != "order":
+                    self.assertIs(error_of(self, NoPlace, chain_holds, HOUSE, "shop", [unit()], bad, 1, value).name, bad)
+
+    def test_great_numbers(self):
+        for n in (60, 200, 201, 1000):
+            found = chain(HOUSE, "two", [Row([], [0], 3)], "out", n)
+            self.assertIs(chain_holds(HOUSE, "two", [Row([], [0], 3)], "out", n, found), True)
+            self.assertIs(chain_holds(HOUSE, "two", [Row([], [0], 2)], "out", n, found), found[-1][2] == 0)
+            self.assertIs(chain_holds(HOUSE, "two", [Row([9], [9], 9)], "out", n, found), False)
+            self.assertIs(chain_holds(HOUSE, "two", [Row([], [0], 3)], "out", n - 1, found), False)
+
+    def test_the_going_itself_is_no_later(self):
+        # All that is told of the others is right, but what it waits for is something else.
+        house = House([Module("m", ["i"], [], ["s", "t"], [("i", "s", 0, 2), ("t", "s", 0, 3)])])
+        self.assertIs(chain_holds(house, "m", [unit()], "s", 1, (("s", 1, 2), ("i", 1, 0))), False)
+        self.assertIs(chain_holds(house, "m", [unit()], "s", 1, (("s", 1, 3), ("t", 1, 0))), True)
+        self.assertIs(chain_holds(house, "m", [Row([1], [1])], "s", 1, (("s", 1, 3), ("i", 1, 1))), True)
+        self.assertIs(chain_holds(house, "m", [Row([1], [2])], "s", 1, (("s", 1, 3), ("i", 1, 1))), False)
+        self.assertIs(chain_holds(house, "m", [Row([1], [2])], "s", 1, (("s", 1, 4), ("i", 1, 2))), True)
+        self.assertIs(chain_holds(house, "m", [Row([1], [2])], "s", 1, (("s", 1, 3), ("s", 0, 3), ("i", 0, 1))), False)
 
 
 if __name__ == "__main__":
