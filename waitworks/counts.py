@@ -5,8 +5,9 @@ from math import lcm
 from waitworks.errors import InvalidTally
 from waitworks.kinds import in_lowest_terms, is_integer, is_less, is_number, is_sequence, is_tuple_of
 from waitworks.rows import Row, empty, is_empty, nothings
-from waitworks.steps import begin_of, changes_of, least_form, meeting, told_by, told_together
-from waitworks.sums import behind
+from waitworks.steps import (
+    begin_of, changes_of, least_form, meeting, steps_ahead, steps_until, told_by, told_together,
+)
 
 
 class Tally:
@@ -17,7 +18,11 @@ class Tally:
         if word is not None:
             raise InvalidTally(word)
         self.under = under
-        self.first, self.again, self.turn, self.more = least_form(first, again, turn, more)
+        form = least_form(first, again, turn, more)
+        self.first = form[0]
+        self.again = form[1]
+        self.turn = form[2]
+        self.more = form[3]
 
     @property
     def rate(self):
@@ -221,7 +226,63 @@ def most_of(tallies):
 
 def tally_behind(one, other):
     """The tally of the goings of two rows behind one another, by the tallies of both."""
-    return tally(behind(goings(one), goings(other)))
+    if one.under is None or other.under is None:
+        return endless()
+    slow, quick = one, other
+    if len(one.again) == 0 or (len(other.again) > 0 and is_less(other.rate, one.rate)):
+        slow, quick = other, one
+    if len(quick.again) == 0:
+        return least_of(_shifts(slow, steps_ahead(quick.under, quick.first)))
+    if len(slow.again) == 0:
+        return least_of(_shifts(quick, steps_ahead(slow.under, slow.first)))
+    # What comes again begins behind its first step: in later turns there may be another count ahead of that one.
+    begins = steps_ahead(slow.under, [*slow.first, slow.again[0]])
+    start, told = slow.again[0]
+    turned = steps_ahead(told, [*slow.again[1:], (start + slow.turn, told + slow.more)])
+    rest = _around(least_of(_shifts(quick, turned)), slow.turn, slow.more)
+    return least_of([rest, *_shifts(quick, begins)])
+
+
+def _shifts(counts, begins):
+    """The tally shifted to each of these pairs of a time and a count."""
+    return [shifted(counts, told, time) for time, told in begins]
+
+
+def _around(counts, turn, more):
+    """The least of a tally and of itself turn by turn later and greater; it grows at least as much as that."""
+    begin, common, grow = _end_around(counts, turn, more)
+    coming = steps_until(counts, begin + common + 1)
+    there, back = counts.under, counts.under + more
+    found = []
+    at = 0
+    turned = 0
+    while at < len(coming) or turned < len(found):
+        times = [time for time, _ in coming[at:at + 1]]
+        times.extend([time + turn for time, _ in found[turned:turned + 1]])
+        time = min(times)
+        if at < len(coming) and coming[at][0] == time:
+            there = coming[at][1]
+            at += 1
+        if turned < len(found) and found[turned][0] + turn == time:
+            back = found[turned][1] + more
+            turned += 1
+        if time > begin + common:
+            break
+        if len(found) == 0 or found[-1][1] < min(there, back):
+            found.append((time, min(there, back)))
+    first = [step for step in found if step[0] <= begin]
+    return Tally(counts.under, first, found[len(first):], common, grow)
+
+
+def _end_around(counts, turn, more):
+    """From when on what `_around` tells comes again, after how long, and how much greater it is then."""
+    if is_less((more, turn), counts.rate):
+        start = steps_until(counts, begin_of(counts) + 1)[0][0]
+        # What goes around from the first step on is no more than this.
+        bound = Tally(counts.under, (), [(start, counts.under + more)], turn, more)
+        return meeting(bound, counts), turn, more
+    common = lcm(turn, counts.turn)
+    return begin_of(counts) + common, common, more * common // turn
 
 
 def is_at_least(one, other):

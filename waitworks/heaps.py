@@ -13,7 +13,11 @@ class Heap:
 
     def __init__(self, under, first, again, turn, more):
         self.under = under
-        self.first, self.again, self.turn, self.more = least_form(first, again, turn, more)
+        form = least_form(first, again, turn, more)
+        self.first = form[0]
+        self.again = form[1]
+        self.turn = form[2]
+        self.more = form[3]
 
     def by(self, time):
         """The heap at a time."""

@@ -2,7 +2,7 @@
 
 from math import lcm
 
-from waitworks.courses import course
+from waitworks.courses import check_arrivals, course
 from waitworks.kinds import are_pairs, is_number, is_tuple_of
 from waitworks.rows import growth
 
@@ -20,10 +20,11 @@ def run_paper(house, name, arrivals):
 
 def run_holds(house, name, arrivals, value):
     """Whether any value is a right paper for a run."""
-    rows = course(house, name, arrivals)
+    check_arrivals(arrivals, house[name].inlets)
     places, links = house.flat(name)
     if not _is_paper(value, places):
         return False
+    rows = course(house, name, arrivals)
     begin, turn, growths = value
     start = begin - _most_marks(links)
     # A right paper tells rows that come again. If they do, it is right: what comes by a link never grows

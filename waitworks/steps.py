@@ -68,6 +68,12 @@ def begin_of(steps):
     return steps.again[0][0] if len(steps.again) > 0 else steps.first[-1][0]
 
 
+def steps_ahead(under, steps):
+    """For all steps the pair of their time and what is told until then."""
+    told = [under, *[there for _, there in steps]]
+    return [(time, last) for (time, _), last in zip(steps, told)]
+
+
 def meeting(slow, quick):
     """A time from which on what grows less is nowhere above what grows more."""
     begin, start = begin_of(slow), begin_of(quick)
