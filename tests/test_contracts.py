@@ -12,7 +12,7 @@ from waitworks.houses import House, Module
 from waitworks.rows import Row, empty, is_at_most, later, unit
 
 from models import (
-    ANY_VALUES, HOUSE, error_of, kept_arrivals, out_by_hand, some_contract, some_face, some_row, sums_by_hand, things,
+    ANY_VALUES, HOUSE, error_of, kept_arrivals, out_by_hand, some_contract, some_face, some_row, things,
 )
 
 ONE = face(HOUSE, "shop")
@@ -280,7 +280,6 @@ class OutTest(unittest.TestCase):
         # An outlet that no inlet reaches keeps what its clock keeps.
         alone = face(House([Module("m", ["i"], ["o"], ["s"], [("s", "o", 0, 9), ("s", "s", 2, 3)])]), "m")
         self.assertEqual(str(contract_out(alone, "o", SLOW)), "| 0 0 + 3")
-        self.assertEqual(sums_by_hand(unit(), SLOW, 3), [0, 6, 12])
 
 
 if __name__ == "__main__":

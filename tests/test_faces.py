@@ -5,14 +5,14 @@ import unittest
 
 from waitworks.errors import InvalidArrivals, NeverGoes, NoPlace
 from waitworks.faces import Face, face, face_with, in_row, out
-from waitworks.flats import cut_out, flat, written_out
+from waitworks.flats import cut_out, written_out
 from waitworks.houses import House, Module
 from waitworks.lates import late_run
 from waitworks.rates import rate
 from waitworks.rows import Row, empty, is_at_most, unit
 from waitworks.runs import run
 
-from models import ANY_VALUES, HOUSE, SHOP, busy_house, error_of, flat_by_hand, out_by_hand, some_arrivals, some_house, things, walk
+from models import ANY_VALUES, HOUSE, busy_house, error_of, flat_by_hand, out_by_hand, some_arrivals, some_house, things, walk
 
 
 def row_by_hand(links, inlet, outlet, many):
@@ -233,7 +233,6 @@ class FaceWithTest(unittest.TestCase):
         loud = face(House([Module("m", ["order"], ["done"], ["s"], [("s", "done", 0, 30), ("s", "s", 2, 3)])]), "m")
         self.assertEqual([str(row) for row in face_with(HOUSE, "two", [("b", loud)]).clock], ["| 30 30 + 3"])
         self.assertEqual(face_with(HOUSE, "two", [("b", loud)]).rows[0][0], empty())
-        self.assertEqual(flat(HOUSE, "two")[0][0], "a.cut")
 
 
 if __name__ == "__main__":

@@ -11,7 +11,7 @@ from waitworks.latest import (
 )
 from waitworks.rows import Row, empty, is_at_most, later, unit
 
-from models import ANY_VALUES, HOUSE, busy_house, error_of, out_by_hand, some_arrivals, some_face, some_row, things
+from models import ANY_VALUES, HOUSE, error_of, out_by_hand, some_arrivals, some_face, some_row, things
 
 ONE = face(HOUSE, "shop")
 WISH = [Row((), (20,), 4)]

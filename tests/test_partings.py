@@ -8,7 +8,7 @@ from waitworks.houses import House, Module
 from waitworks.partings import late_by, never_later, parting, parting_holds
 from waitworks.rows import Row, empty, unit
 
-from models import ANY_VALUES, HOUSE, busy_house, out_by_hand, some_arrivals, some_house
+from models import ANY_VALUES, HOUSE, busy_house, out_by_hand, some_arrivals
 
 
 def holds_by_hand(one, other, value):

@@ -11,7 +11,7 @@ from waitworks.rows import Row, unit
 from waitworks.runs import run
 from waitworks.slacks import far_spare, near_spare, slack, tight
 
-from models import ANY_VALUES, HOUSE, SHOP, busy_house, error_of, feeders_by_hand, flat_by_hand, some_arrivals, some_house, walk
+from models import ANY_VALUES, HOUSE, busy_house, error_of, feeders_by_hand, flat_by_hand, some_arrivals, some_house, walk
 
 
 class SpareTest(unittest.TestCase):
@@ -134,7 +134,6 @@ class SlackTest(unittest.TestCase):
         for bad, at in ((None, 0), ([], 0), ([unit(), unit()], 0), ([None], 0), ([Row([-1], [0])], 0), ([Row([None], [0])], 0)):
             self.assertEqual(error_of(self, InvalidArrivals, slack, HOUSE, "shop", bad, 0).at, at)
             self.assertEqual(error_of(self, InvalidArrivals, tight, HOUSE, "shop", bad).at, at)
-        self.assertEqual(SHOP.links[0], ("order", "cut", 0, 0))
 
 
 if __name__ == "__main__":

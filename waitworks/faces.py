@@ -46,20 +46,20 @@ def out(face, arrivals):
     return tuple([rows[outlet] for outlet in face.outlets])
 
 
-def _led_through(face, rows, clock):
+def _led_through(one, rows, clock):
     """What outlets have of rows at the inlets, and of a clock (if there are any of both): a dict."""
-    doors = [f"in {at}" for at in range(len(face.inlets))]
+    doors = [f"in {at}" for at in range(len(one.inlets))]
     ways = []
-    for outlet, parts in zip(face.outlets, face.rows):
+    for outlet, parts in zip(one.outlets, one.rows):
         ways.extend([(door, outlet, part) for door, part in zip(doors, parts)])
-    coming = [*list(zip(doors, rows)), *list(zip(face.outlets, clock))]
-    return net_solved([*doors, *face.outlets], [], ways, coming)
+    coming = [*list(zip(doors, rows)), *list(zip(one.outlets, clock))]
+    return net_solved([*doors, *one.outlets], [], ways, coming)
 
 
-def going_out(face, arrivals, at, n):
+def going_out(one, arrivals, at, n):
     """The n-th going of the outlet with this number."""
-    sums = [sum_at(row, came, n) for row, came in zip(face.rows[at], arrivals)]
-    return max([face.clock[at].time(n), *[time for time in sums if time is not None]])
+    sums = [sum_at(row, came, n) for row, came in zip(one.rows[at], arrivals)]
+    return max([one.clock[at].time(n), *[time for time in sums if time is not None]])
 
 
 def in_row(one, other):
