@@ -41,6 +41,8 @@ ENDS = ("house", "name", "first", "then")
 COMES = ("comes", "goes")
 BEAT = ("house", "name", "beat")
 TABLE = (*BEAT, "table")
+LOG = ("house", "name", "log")
+MENU = ("house", "name", "menu")
 FUNCTIONS = {
     "rows": {"unit": (), "empty": (), "later": ("row", "marks", "lasts"), "first_above": ("one", "other"), "is_at_most": ("one", "other")},
     "sums": {"greatest": ("rows",), "least": ("rows",), "behind": ("one", "other"), "star": ("row",)},
@@ -104,6 +106,22 @@ FUNCTIONS = {
     "lateness": {
         "spares": TABLE, "unspared": TABLE, "late_goings": (*TABLE, "lates"), "most_late": (*TABLE, "place", "d"), "gone_after": (*TABLE, "place", "d"),
         "unharmed": (*TABLE, "place", "other"), "stays": TABLE, "late_way": (*TABLE, "place", "d", "other"), "late_holds": (*TABLE, "place", "d", "value"),
+    },
+    "flows": {"flow": (*BEAT, "prices"), "flow_holds": (*BEAT, "prices", "value")},
+    "mends": {
+        "hindrance": (*BEAT, "prices"), "mend": (*BEAT, "prices"), "mend_cost": (*BEAT, "prices"), "mend_holds": (*BEAT, "prices", "value"),
+        "mended": ("house", "name", "cuts"), "mend_costs": ("house", "name", "prices"), "best_beat": ("house", "name", "prices", "money"),
+        "cut_spans": (*BEAT, "prices"),
+    },
+    "logs": {"log_of": (*RUN, "many"), "told_back": LOG, "explained": LOG, "explains": (*LOG, "lasts"), "sure": LOG},
+    "blames": {"blame": LOG, "blame_holds": (*LOG, "value"), "spans_clash": ("house", "name", "spans", "log")},
+    "choices": {
+        "choices": MENU, "price": (*MENU, "choice"), "chosen": (*MENU, "choice"), "chosen_face": (*MENU, "choice"), "is_faster": ("one", "other"),
+        "meets": ("one", "goals"), "cheapest": (*MENU, "goals"), "fastest": (*MENU, "price"), "refutation": (*MENU, "goals", "choice"),
+        "refutation_holds": (*MENU, "goals", "choice", "value"), "bar": (*MENU, "goals", "price"), "bar_holds": (*MENU, "goals", "price", "value"),
+    },
+    "tidy": {
+        "needless": ("module",), "link_parting": ("module", "at"), "link_parting_holds": ("module", "at", "value"), "groups": ("module",),
     },
 }
 CLASSES = {

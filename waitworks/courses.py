@@ -1,32 +1,8 @@
 """How all goes: the rows of all places of a module, for told arrivals."""
 
-from waitworks.errors import InvalidArrivals, NoPlace
-from waitworks.kinds import is_one_of, is_sequence
+from waitworks.checks import check_arrivals, check_place
 from waitworks.nets import net_solved
 from waitworks.rows import Row, unit
-
-
-def check_arrivals(arrivals, inlets):
-    """Refuse what are no arrivals for these inlets."""
-    at = wrong_arrival(arrivals, inlets)
-    if at is not None:
-        raise InvalidArrivals(at)
-
-
-def wrong_arrival(arrivals, inlets):
-    """The index of the first thing that is wrong in arrivals for these inlets, 0 for none at all, else None."""
-    if not is_sequence(arrivals) or len(arrivals) != len(inlets):
-        return 0
-    for at, row in enumerate(arrivals):
-        if not isinstance(row, Row) or row.time(0) is None or row.time(0) < 0:
-            return at
-    return None
-
-
-def check_place(place, places):
-    """Refuse what is none of these places."""
-    if not is_one_of(place, places):
-        raise NoPlace(place)
 
 
 def course(house, name, arrivals):
@@ -40,6 +16,17 @@ def sums_from(house, name, place):
     """The greatest sums of lasts on ways from a place to each place, by how many marks these have at most: a dict."""
     places, links = house.flat(name)
     return net_solved(places, links, [], [(place, unit())])
+
+
+def all_courses(house, name):
+    """What tells how a module goes for all arrivals: for each inlet, and at last for the clock, the rows of all places.
+
+    Behind an inlet a place goes by its row there; by that of the clock it goes if all arrivals are at 0.
+    """
+    inlets = house[name].inlets
+    courses = [sums_from(house, name, inlet) for inlet in inlets]
+    courses.append(course(house, name, [unit()] * len(inlets)))
+    return courses
 
 
 def late_course(house, name, arrivals, lates):

@@ -1,6 +1,7 @@
 """Crowds: how many goings are on the way along links, and wait at their ends."""
 
-from waitworks.courses import check_place, course
+from waitworks.checks import check_place
+from waitworks.courses import course
 from waitworks.heaps import heaps
 from waitworks.rows import later
 

@@ -1,9 +1,10 @@
 """Faces: what modules are from outside."""
 
-from waitworks.courses import check_arrivals, course, sums_from
+from waitworks.checks import check_arrivals
+from waitworks.courses import all_courses
 from waitworks.errors import NeverGoes
 from waitworks.nets import net_solved
-from waitworks.rings import ring_without_marks
+from waitworks.paths import ring_without_marks
 from waitworks.rows import unit
 from waitworks.sums import sum_at
 
@@ -28,9 +29,8 @@ class Face:
 def face(house, name):
     """The face of a module."""
     module = house[name]
-    answers = [sums_from(house, name, inlet) for inlet in module.inlets]
-    rest = course(house, name, [unit()] * len(module.inlets))
-    return _told(module.inlets, module.outlets, answers, rest)
+    courses = all_courses(house, name)
+    return _told(module.inlets, module.outlets, courses[:-1], courses[-1])
 
 
 def _told(inlets, outlets, answers, rest):

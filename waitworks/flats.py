@@ -3,7 +3,7 @@
 from waitworks.errors import NoPlace, Refused
 from waitworks.houses import Module
 from waitworks.kinds import free_names, is_one_of, is_sequence
-from waitworks.rings import layers
+from waitworks.paths import layers
 
 
 def flat(house, name):

@@ -3,7 +3,7 @@
 from waitworks.errors import InvalidHouse, InvalidModule, InvalidText, NeverGoes, NoPlace
 from waitworks.flattening import flattened
 from waitworks.kinds import is_link, is_name, is_one_of, is_sequence, is_tuple_of
-from waitworks.rings import ring_without_marks
+from waitworks.paths import ring_without_marks
 from waitworks.texts import modules_told, text_of
 
 

@@ -1,16 +1,17 @@
 """Lateness: what late goings hand on by a timetable, and when it ends."""
 
-from waitworks.courses import check_place, sums_from
-from waitworks.kinds import is_integer, is_one_of, is_tuple_of
-from waitworks.rings import highest_ways, layers, way_to
+from waitworks.checks import check_place
+from waitworks.courses import sums_from
+from waitworks.papers import is_late_paper, spares_by
+from waitworks.paths import layers
+from waitworks.rings import highest_ways, way_to
 from waitworks.rows import Row, is_empty, last_above, later, nothings
 
 
 def spares(house, name, beat, table):
     """What each link has to spare."""
     _, links = house.flat(name)
-    times = dict(table)
-    return tuple([times[then] + beat * marks - times[first] - lasts for first, then, marks, lasts in links])
+    return spares_by(links, beat, table)
 
 
 def unspared(house, name, beat, table):
@@ -100,16 +101,4 @@ def late_holds(house, name, beat, table, place, d, value):
     """Whether any value is a late paper for a place and how late it is."""
     places, links = house.flat(name)
     check_place(place, places)
-    if not isinstance(value, tuple) or not all([_is_late_pair(pair, places) for pair in value]):
-        return False
-    names = [pair[0] for pair in value]
-    if names != sorted(set(names)):
-        return False
-    late = dict(value)
-    handed = [(link[1], late.get(link[0], 0) - spare) for link, spare in zip(links, spares(house, name, beat, table))]
-    return all([late.get(end, 0) >= how for end, how in [(place, d), *handed]])
-
-
-def _is_late_pair(pair, places):
-    """Whether this is a pair of one of these places and a number from 1 on."""
-    return is_tuple_of(pair, 2) and is_one_of(pair[0], places) and is_integer(pair[1]) and pair[1] > 0
+    return is_late_paper(value, places, links, spares_by(links, beat, table), place, d)

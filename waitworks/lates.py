@@ -1,6 +1,7 @@
 """Late goings: what they make late, and when it is made good."""
 
-from waitworks.courses import check_place, late_course
+from waitworks.checks import check_place
+from waitworks.courses import late_course
 from waitworks.partners import greatest_difference
 from waitworks.rows import last_above
 

@@ -1,6 +1,6 @@
 """Latest arrivals: how late things can come so that wishes are kept."""
 
-from waitworks.courses import check_arrivals
+from waitworks.checks import check_arrivals
 from waitworks.errors import InvalidArrivals, InvalidWishes, NoPlace
 from waitworks.faces import out
 from waitworks.kinds import is_integer, is_number, is_one_of, is_sequence, is_tuple_of

@@ -1,6 +1,6 @@
 """Partings: arrivals by which two faces go otherwise."""
 
-from waitworks.courses import wrong_arrival
+from waitworks.checks import wrong_arrival
 from waitworks.faces import going_out
 from waitworks.kinds import is_number, is_one_of, is_tuple_of
 from waitworks.partners import greatest_difference

@@ -1,7 +1,8 @@
 """Rates: how fast places go in the long run, and which ring holds them up."""
 
-from waitworks.courses import check_place
-from waitworks.rings import feeding, gains, highest_ways, on_slowest_rings, ratio, slowest_ring
+from waitworks.checks import check_place
+from waitworks.paths import feeding, gains, ratio
+from waitworks.rings import highest_ways, on_slowest_rings, slowest_ring
 
 
 def rate(house, name, place):

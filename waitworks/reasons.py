@@ -1,8 +1,9 @@
 """Chains: why a going is not earlier."""
 
-from waitworks.courses import check_arrivals, check_place, course
+from waitworks.checks import check_arrivals, check_place
+from waitworks.courses import course
 from waitworks.kinds import is_integer, is_number, is_tuple_of
-from waitworks.rings import feeding, layers
+from waitworks.paths import feeding, layers
 
 # Goings with greater numbers are told by rows, not walked to.
 MOST_WALKED = 200

@@ -1,11 +1,12 @@
 """Rooms: ways back of so many marks, and how much room changes nothing."""
 
-from waitworks.courses import check_place, course, sums_from
+from waitworks.checks import check_place
+from waitworks.courses import all_courses
 from waitworks.errors import NoPlace
 from waitworks.houses import Module
 from waitworks.kinds import is_one_of
 from waitworks.partners import partner
-from waitworks.rows import Row, unit
+from waitworks.rows import Row
 from waitworks.sums import least
 from waitworks.ways import way_back
 
@@ -49,10 +50,7 @@ def sure_row(house, name, first, then):
     places, _ = house.flat(name)
     check_place(first, places)
     check_place(then, places)
-    inlets = house[name].inlets
-    courses = [sums_from(house, name, inlet) for inlet in inlets]
-    courses.append(course(house, name, [unit()] * len(inlets)))
-    bounds = [partner(rows[then], rows[first]) for rows in courses]
+    bounds = [partner(rows[then], rows[first]) for rows in all_courses(house, name)]
     return least([bound for bound in bounds if bound is not None])
 
 

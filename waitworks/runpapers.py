@@ -2,7 +2,8 @@
 
 from math import lcm
 
-from waitworks.courses import check_arrivals, course
+from waitworks.checks import check_arrivals
+from waitworks.courses import course
 from waitworks.kinds import are_pairs, is_number, is_tuple_of
 from waitworks.rows import growth
 

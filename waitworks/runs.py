@@ -1,6 +1,7 @@
 """Runs: when each place goes."""
 
-from waitworks.courses import check_place, course
+from waitworks.checks import check_place
+from waitworks.courses import course
 
 
 def run(house, name, arrivals):

@@ -1,6 +1,7 @@
 """Spare and slack: how late goings can be, and how much longer links can last, while other goings stay."""
 
-from waitworks.courses import check_place, course, sums_from
+from waitworks.checks import check_place
+from waitworks.courses import course, sums_from
 from waitworks.partners import greatest_difference
 from waitworks.rows import from_going, gaps_between, is_empty, later
 

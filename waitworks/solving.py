@@ -6,7 +6,8 @@ Ways of links lead from given rows; a place has the latest of all that comes to 
 from math import lcm
 
 from waitworks.kinds import is_less
-from waitworks.rings import layers, parts, ratio, slowest_ring, turn_of_rings
+from waitworks.paths import layers, ratio
+from waitworks.rings import parts, slowest_ring, turn_of_rings
 from waitworks.rows import Row, empty, first_above, is_empty, later
 
 
