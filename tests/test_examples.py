@@ -15,7 +15,7 @@ class ExamplesTest(unittest.TestCase):
         runner = doctest.DocTestRunner(verbose=False)
         runner.run(test, out=told.append)
         self.assertEqual(runner.summarize(verbose=False).failed, 0, "".join(told))
-        self.assertGreater(runner.tries, 85)
+        self.assertGreater(runner.tries, 110)
 
 
 if __name__ == "__main__":

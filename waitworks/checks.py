@@ -28,6 +28,12 @@ def check_place(place, places):
         raise NoPlace(place)
 
 
+def check_pairs(pairs, places):
+    """Refuse the first of these pairs of a place and a number with a place that there is not."""
+    for place, _ in pairs:
+        check_place(place, places)
+
+
 def logged_times(log, places):
     """The times that a log tells for these places: a dict; refuse what is no log of them."""
     if not is_sequence(log):

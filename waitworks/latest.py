@@ -9,9 +9,9 @@ from waitworks.rows import Row, first_above, from_going, is_at_most, is_empty, l
 from waitworks.sums import least
 
 
-def _check_wishes(face, wishes):
-    """Refuse what are no wishes for the outlets of a face."""
-    if not is_sequence(wishes) or len(wishes) != len(face.outlets):
+def check_wishes(wishes, outlets):
+    """Refuse what are no wishes for these outlets."""
+    if not is_sequence(wishes) or len(wishes) != len(outlets):
         raise InvalidWishes(0)
     for at, row in enumerate(wishes):
         if not isinstance(row, Row):
@@ -20,7 +20,7 @@ def _check_wishes(face, wishes):
 
 def can_keep(face, wishes):
     """Whether some arrivals keep these wishes."""
-    _check_wishes(face, wishes)
+    check_wishes(wishes, face.outlets)
     return _first_hopeless(face, wishes) is None
 
 
@@ -39,7 +39,7 @@ def in_time(face, wishes, arrivals):
 
 def first_late(face, wishes, arrivals):
     """The least going that is above its wish, and the first such outlet; None if there is none."""
-    _check_wishes(face, wishes)
+    check_wishes(wishes, face.outlets)
     check_arrivals(arrivals, face.inlets)
     found = [(first_above(row, wish), at) for at, (row, wish) in enumerate(zip(out(face, arrivals), wishes))]
     first = min([(n, at) for n, at in found if n is not None], default=None)
@@ -48,7 +48,7 @@ def first_late(face, wishes, arrivals):
 
 def latest(face, wishes):
     """The greatest arrivals that keep these wishes, None for an inlet without a bound; None if no arrivals do."""
-    _check_wishes(face, wishes)
+    check_wishes(wishes, face.outlets)
     if _first_hopeless(face, wishes) is not None:
         return None
     return tuple([_latest_at(face, wishes, at) for at in range(len(face.inlets))])
@@ -63,7 +63,7 @@ def _latest_at(face, wishes, at):
 
 def least_delay(face, wishes):
     """How much later all wishes are to be, so that some arrivals keep them; None if no number is enough."""
-    _check_wishes(face, wishes)
+    check_wishes(wishes, face.outlets)
     gaps = [greatest_difference(clock, wish) for clock, wish in zip(face.clock, wishes)]
     return None if None in gaps else max([0, *gaps])
 
@@ -91,7 +91,7 @@ def _number_of_inlet(face, name):
 def late_reason(face, wishes, name, n):
     """Some outlet and going above its wish if an arrival comes one later than it can; None without a bound."""
     at = _inlet_of_kept(face, wishes, name)
-    limit = _latest_time(face, wishes, at, n)
+    limit = latest_time(face, wishes, at, n)
     for outlet, rows, wish in zip(face.outlets, face.rows, wishes):
         if not is_empty(rows[at]):
             over = first_above(later(rows[at], 0, limit + 1), from_going(wish, n))
@@ -109,19 +109,19 @@ def late_reason_holds(face, wishes, name, n, value):
     time = face.rows[outlet][at].time(value[1] - n)
     if time is None:
         return False
-    return _latest_time(face, wishes, at, n) + 1 + time > wishes[outlet].time(value[1])
+    return latest_time(face, wishes, at, n) + 1 + time > wishes[outlet].time(value[1])
 
 
 def _inlet_of_kept(face, wishes, name):
     """The number of the inlet with a name, if some arrivals keep the wishes."""
-    _check_wishes(face, wishes)
+    check_wishes(wishes, face.outlets)
     at = _first_hopeless(face, wishes)
     if at is not None:
         raise InvalidWishes(at)
     return _number_of_inlet(face, name)
 
 
-def _latest_time(face, wishes, at, n):
+def latest_time(face, wishes, at, n):
     """The latest time of the n-th arrival of one inlet, None without a bound."""
     bounds = []
     for rows, wish in zip(face.rows, wishes):

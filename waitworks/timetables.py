@@ -1,6 +1,6 @@
 """Timetables: the n-th going of each place at a time of its own, and a beat times n."""
 
-from waitworks.checks import check_place
+from waitworks.checks import check_pairs, check_place
 from waitworks.papers import (
     counted, is_clash, is_margin_paper, is_table, limits, margin_of, margin_weights, over, starts,
 )
@@ -31,7 +31,7 @@ def too_slow(house, name, beat):
 def timetable(house, name, beat, wants=()):
     """The kept timetable with the least times in which no place is ahead of what is wanted; or None."""
     places, links = house.flat(name)
-    _check_pairs(wants, places)
+    check_pairs(wants, places)
     return _least_table(places, links, over(links, beat), wants)
 
 
@@ -39,12 +39,6 @@ def spared(house, name, beat, more):
     """The kept timetable with the least times in which each link can last so much more; or None."""
     places, links = house.flat(name)
     return _least_table(places, links, [weight + more for weight in over(links, beat)], ())
-
-
-def _check_pairs(pairs, places):
-    """Refuse the first of these pairs of a place and a number with a place that there is not."""
-    for place, _ in pairs:
-        check_place(place, places)
 
 
 def _least_table(places, links, weights, wants):
@@ -64,7 +58,7 @@ def timetable_holds(house, name, beat, value):
 def latest_times(house, name, beat, wishes):
     """The pairs of a place and its latest time in kept timetables with no place behind its wish; or None."""
     places, links = house.flat(name)
-    _check_pairs(wishes, places)
+    check_pairs(wishes, places)
     if too_slow(house, name, beat) is not None:
         return None
     back = [(then, first, marks, lasts) for first, then, marks, lasts in links]
@@ -78,8 +72,8 @@ def latest_times(house, name, beat, wishes):
 def clash(house, name, beat, wants, wishes):
     """Some paper that no kept timetable keeps these wants and wishes; None if one does."""
     places, links = house.flat(name)
-    _check_pairs(wants, places)
-    _check_pairs(wishes, places)
+    check_pairs(wants, places)
+    check_pairs(wishes, places)
     ring = too_slow(house, name, beat)
     if ring is not None:
         return ("ring", ring)
@@ -94,8 +88,8 @@ def clash(house, name, beat, wants, wishes):
 def clash_holds(house, name, beat, wants, wishes, value):
     """Whether any value is a paper that no kept timetable keeps these wants and wishes."""
     places, links = house.flat(name)
-    _check_pairs(wants, places)
-    _check_pairs(wishes, places)
+    check_pairs(wants, places)
+    check_pairs(wishes, places)
     return is_clash(value, places, links, beat, wants, wishes)
 
 
