@@ -123,6 +123,14 @@ FUNCTIONS = {
     "tidy": {
         "needless": ("module",), "link_parting": ("module", "at"), "link_parting_holds": ("module", "at", "value"), "groups": ("module",),
     },
+    "cleaning": {
+        "stepped": ("module", "steps"), "tidy_steps": ("module",), "is_tidy": ("module",), "steps_hold": ("module", "value"), "tidied": ("module",),
+    },
+    "exchange": {"swaps": ("house", "name"), "first_change": ("one", "other"), "can_change": ("one", "other"), "made_of": ("wanted", "name")},
+    "checker": {
+        "holds": ("house", "name", "kind", "question", "value"), "wrong_sheets": ("house", "name", "sheets"), "ring_holds": ("modules", "name", "value"),
+    },
+    "cheap": {"cheap_paper": (*BEAT, "prices")},
 }
 CLASSES = {
     ("rows", "Row"): {"__init__": ("self", "first", "again", "more"), "read": ("text",), "time": ("self", "n"), "count": ("self", "time"),
@@ -133,6 +141,13 @@ CLASSES = {
                           "names": None, "__len__": None, "__eq__": None, "__str__": None, "__getitem__": None},
     ("faces", "Face"): {"__eq__": None},
     ("counts", "Tally"): {"__init__": ("self", "under", "first", "again", "turn", "more"), "by": ("self", "time"), "rate": None, "__eq__": None},
+    ("works", "Works"): {"__init__": ("self", "house"), "put": ("self", "module"), "drop": ("self", "name"), "link": ("self", "name", "link"),
+                         "cut": ("self", "name", "link"), "face": ("self", "name"), "alike": ("self", "many"), "undo": ("self",),
+                         "within": ("self", "work"), "__len__": None},
+    ("days", "Day"): {"__init__": ("self", "house", "name"), "come": ("self", "inlet", "time"), "several": ("self", "some"), "sure": ("self", "place"),
+                      "earliest": ("self", "place", "n"), "time": ("self", "place", "n"), "can_keep": ("self", "wishes"), "late": ("self", "wishes"),
+                      "due": ("self", "inlet", "wishes"), "undo": ("self",), "within": ("self", "work"), "__len__": None},
+    ("desk", "Desk"): {"__init__": ("self",), "say": ("self", "command")},
     ("heaps", "Heap"): {"by": ("self", "time"), "most": ("self",), "fewest": ("self",), "total": ("self", "time", "many"), "__eq__": None},
 }
 
@@ -168,7 +183,8 @@ class InterfaceTest(unittest.TestCase):
         self.assertEqual(inspect.signature(timetable).parameters["wants"].default, ())
 
     def test_errors_are_defined_there(self):
-        for name in ("WaitError", "InvalidRow", "InvalidContract", "NoPlace", "Refused"):
+        for name in ("WaitError", "InvalidRow", "InvalidModule", "InvalidHouse", "InvalidText", "NeverGoes", "InvalidArrivals", "InvalidWishes", "InvalidContract", "InvalidLog",
+                     "InvalidCommand", "InvalidMenu", "InvalidChoice", "InvalidGoals", "InvalidTally", "Refused", "NoPlace"):
             self.assertEqual(getattr(errors, name).__module__, "waitworks.errors")
 
 

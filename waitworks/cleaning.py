@@ -63,7 +63,7 @@ def tidied(module):
 
 
 class Cleaning:
-    """A module from which one thing after another goes out, with the rows by which it goes, as far as they are known."""
+    """A module from which one thing after another goes out, with the rows by which it goes, if they are known."""
 
     def __init__(self, module):
         self.module = module
