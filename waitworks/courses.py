@@ -1,31 +1,39 @@
 """How all goes: the rows of all places of a module, for told arrivals."""
 
 from waitworks.checks import check_arrivals, check_place
-from waitworks.nets import net_solved
 from waitworks.rows import Row, unit
+from waitworks.solving import solved
+
+# What comes from outside has numbers for names, which no place has; this is the row of zeros.
+START = -1
 
 
 def course(house, name, arrivals):
     """The rows of all places in the run: a dict."""
     module = house[name]
     check_arrivals(arrivals, module.inlets)
-    return _rows_with(house, module, arrivals, [])
+    return _rows_with(house, module, arrivals, [], house.flat(name)[0])
 
 
 def sums_from(house, name, place):
     """The greatest sums of lasts on ways from a place to each place, by how many marks these have at most: a dict."""
-    places, links = house.flat(name)
-    return net_solved(places, links, [], [(place, unit())])
+    return _sums_for(house, name, place, house.flat(name)[0])
 
 
-def all_courses(house, name):
-    """What tells how a module goes for all arrivals: for each inlet, and at last for the clock, the rows of all places.
+def _sums_for(house, name, place, wanted):
+    """These sums for the places that are wanted."""
+    _, links = house.flat(name)
+    return solved(list(house.levels(name)), [*links, (START, place, 0, 0)], {START: unit()}, wanted)
+
+
+def all_courses(house, name, wanted):
+    """What tells how places go for all arrivals: for each inlet, and at last for the clock, the rows of these places.
 
     Behind an inlet a place goes by its row there; by that of the clock it goes if all arrivals are at 0.
     """
-    inlets = house[name].inlets
-    courses = [sums_from(house, name, inlet) for inlet in inlets]
-    courses.append(course(house, name, [unit()] * len(inlets)))
+    module = house[name]
+    courses = [_sums_for(house, name, inlet, wanted) for inlet in module.inlets]
+    courses.append(_rows_with(house, module, [unit()] * len(module.inlets), [], wanted))
     return courses
 
 
@@ -36,15 +44,17 @@ def late_course(house, name, arrivals, lates):
         check_place(place, list(rows))
     # Nothing is known of goings ahead of a late one; later ones wait for it.
     held = [(place, Row([None] * n, [rows[place].time(n) + d])) for place, n, d in lates]
-    return rows, _rows_with(house, house[name], arrivals, held)
+    return rows, _rows_with(house, house[name], arrivals, held, list(rows))
 
 
-def _rows_with(house, module, arrivals, held):
-    """The rows of all places that wait for their links, and for these rows, too."""
-    places, links = house.flat(module.name)
+def _rows_with(house, module, arrivals, held, wanted):
+    """The rows of places, if all wait for their links, and some for these rows, too."""
+    _, links = house.flat(module.name)
+    levels = house.levels(module.name)
     # What waits for a going with the same number is not ahead of 0 by this alone.
-    later_ones = {then: True for _, then, marks, _ in links if marks == 0}
-    coming = [(place, unit()) for place in places if place not in module.inlets and place not in later_ones]
-    coming.extend(list(zip(module.inlets, arrivals)))
-    coming.extend(held)
-    return net_solved(places, links, [], coming)
+    steps = [(START, place, 0, 0) for place in levels if levels[place] == 0 and place not in module.inlets]
+    coming = [*list(zip(module.inlets, arrivals)), *held]
+    given = {at: row for at, (_, row) in enumerate(coming)}
+    steps.extend([(at, place, 0, 0) for at, (place, _) in enumerate(coming)])
+    given[START] = unit()
+    return solved(list(levels), [*links, *steps], given, wanted)

@@ -29,7 +29,7 @@ class Face:
 def face(house, name):
     """The face of a module."""
     module = house[name]
-    courses = all_courses(house, name)
+    courses = all_courses(house, name, module.outlets)
     return _told(module.inlets, module.outlets, courses[:-1], courses[-1])
 
 
@@ -53,7 +53,7 @@ def _led_through(one, rows, clock):
     for outlet, parts in zip(one.outlets, one.rows):
         ways.extend([(door, outlet, part) for door, part in zip(doors, parts)])
     coming = [*list(zip(doors, rows)), *list(zip(one.outlets, clock))]
-    return net_solved([*doors, *one.outlets], [], ways, coming)
+    return net_solved([*doors, *one.outlets], [], ways, coming, one.outlets)
 
 
 def going_out(one, arrivals, at, n):
@@ -87,9 +87,10 @@ def face_with(house, name, faces):
     ring = ring_without_marks(places, [*module.links, *at_once])
     if len(ring) > 0:
         raise NeverGoes(ring)
-    answers = [net_solved(places, module.links, ways, [(inlet, unit())]) for inlet in module.inlets]
+    outlets = module.outlets
+    answers = [net_solved(places, module.links, ways, [(inlet, unit())], outlets) for inlet in module.inlets]
     coming = [*[(place, unit()) for place in places], *clocks]
-    return _told(module.inlets, module.outlets, answers, net_solved(places, module.links, ways, coming))
+    return _told(module.inlets, outlets, answers, net_solved(places, module.links, ways, coming, outlets))
 
 
 def _faces_of_calls(house, module, faces):

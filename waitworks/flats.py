@@ -3,7 +3,6 @@
 from waitworks.errors import NoPlace, Refused
 from waitworks.houses import Module
 from waitworks.kinds import free_names, is_one_of, is_sequence
-from waitworks.paths import layers
 
 
 def flat(house, name):
@@ -38,8 +37,7 @@ def asked(house, name):
 
 def levels(house, name):
     """The pairs of a place and the greatest number of links without marks that lead to it, by this number."""
-    places, links = flat(house, name)
-    found = sorted([(level, place) for place, level in layers(places, links).items()])
+    found = sorted([(level, place) for place, level in house.levels(name).items()])
     return tuple([(place, level) for level, place in found])
 
 

@@ -3,7 +3,7 @@
 from waitworks.errors import InvalidHouse, InvalidModule, InvalidText, NeverGoes, NoPlace
 from waitworks.flattening import flattened
 from waitworks.kinds import is_link, is_name, is_one_of, is_sequence, is_tuple_of
-from waitworks.paths import ring_without_marks
+from waitworks.paths import layers, ring_without_marks
 from waitworks.texts import modules_told, text_of
 
 
@@ -48,14 +48,17 @@ class House:
         if at is not None:
             raise InvalidHouse(at)
         flats = {}
+        levels = {}
         for module in modules:
             places, links = flattened(module, flats)
-            ring = ring_without_marks(places, links)
-            if len(ring) > 0:
-                raise NeverGoes(ring)
+            found = layers(places, links)
+            if len(found) < len(places):
+                raise NeverGoes(ring_without_marks(places, links))
             flats[module.name] = (places, links)
+            levels[module.name] = found
         self.modules = tuple(modules)
         self._flats = flats
+        self._levels = levels
 
     @staticmethod
     def read(text):
@@ -81,6 +84,10 @@ class House:
     def flat(self, name):
         """The pair of all places and all links of a module, both ascending."""
         return self._flats[self[name].name]
+
+    def levels(self, name):
+        """The levels of all places of a module, each behind those that it waits for without marks: a dict."""
+        return dict(self._levels[self[name].name])
 
     def __len__(self):
         return len(self.modules)

@@ -1,11 +1,12 @@
 """Places that wait for one another by links and by rows: what comes by a row comes behind it."""
 
 from waitworks.lines import ONCE, lines_of
+from waitworks.paths import layers
 from waitworks.solving import solved
 
 
-def net_solved(places, links, ways, coming):
-    """The least rows of these places: a dict.
+def net_solved(places, links, ways, coming, wanted):
+    """The least rows of these places, for those that are wanted: a dict.
 
     They keep all links, all ways (first, then, row): `then` is nowhere below `first` behind the row,
     and what is coming, pairs of a place and a row that it is nowhere below.
@@ -16,9 +17,10 @@ def net_solved(places, links, ways, coming):
         inner, rungs = ladder(row, first, then, f"turn {at}")
         turns.extend(inner)
         steps.extend(rungs)
+    order = list(layers([*places, *turns], steps))
     # What comes from outside gets numbers for names, which no place has.
     steps.extend([(at, place, 0, 0) for at, (place, _) in enumerate(coming)])
-    return solved([*places, *turns], steps, {at: row for at, (_, row) in enumerate(coming)})
+    return solved(order, steps, {at: row for at, (_, row) in enumerate(coming)}, wanted)
 
 
 def ladder(row, first, then, name):

@@ -34,17 +34,24 @@ def leading_to(place, firsts):
 
 def layers(places, links):
     """The levels of places, by links without marks: a dict; without those that a ring holds back."""
-    waits = [link for link in links if link[2] == 0]
+    waits = {place: 0 for place in places}
+    behind = {place: [] for place in places}
+    for first, then, marks, _ in links:
+        if marks == 0 and first in waits and then in waits:
+            waits[then] += 1
+            behind[first].append(then)
     found = {}
-    rest = list(places)
+    free = [place for place in waits if waits[place] == 0]
     level = 0
-    while len(rest) > 0:
-        held = {then: True for first, then, _, _ in waits if first in rest}
-        free = [place for place in rest if place not in held]
-        if len(free) == 0:
-            return found
-        found.update({place: level for place in free})
-        rest = [place for place in rest if place in held]
+    while len(free) > 0:
+        coming = []
+        for place in free:
+            found[place] = level
+            for then in behind[place]:
+                waits[then] -= 1
+                if waits[then] == 0:
+                    coming.append(then)
+        free = coming
         level += 1
     return found
 

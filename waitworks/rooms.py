@@ -50,7 +50,7 @@ def sure_row(house, name, first, then):
     places, _ = house.flat(name)
     check_place(first, places)
     check_place(then, places)
-    bounds = [partner(rows[then], rows[first]) for rows in all_courses(house, name)]
+    bounds = [partner(rows[then], rows[first]) for rows in all_courses(house, name, [first, then])]
     return least([bound for bound in bounds if bound is not None])
 
 

@@ -7,20 +7,29 @@ from math import lcm
 
 from waitworks.kinds import is_less
 from waitworks.paths import layers, ratio
+from waitworks.quick import quick_rows
 from waitworks.rings import parts, slowest_ring, turn_of_rings
 from waitworks.rows import Row, empty, first_above, is_empty, later
 
 
-def solved(places, links, given):
-    """The least rows of these places that keep all links, from other places with given rows: a dict."""
+def solved(order, links, given, wanted):
+    """The least rows, for those places that are wanted, that keep all links from places with given rows: a dict.
+
+    Links without marks lead from what is ahead in this order of all places.
+    """
+    found = quick_rows(order, links, given, wanted)
+    if found is None:
+        found = _found_by_parts(order, links, given)
+    return {place: found[place] if place in found else empty() for place in wanted}
+
+
+def _found_by_parts(places, links, given):
+    """The least rows of all places, found for those that feed one another together."""
     rows = {place: row for place, row in given.items()}
-    found = {}
     for part in parts(places, links):
         coming = [link for link in links if link[1] in part and (link[0] in part or not is_empty(rows[link[0]]))]
-        fresh = _rows_of_part(part, coming, rows)
-        rows.update(fresh)
-        found.update(fresh)
-    return found
+        rows.update(_rows_of_part(part, coming, rows))
+    return rows
 
 
 def _rows_of_part(part, links, rows):

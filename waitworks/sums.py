@@ -12,7 +12,7 @@ from waitworks.solving import solved
 def greatest(rows):
     """The row that has at each place the greatest thing that these have there."""
     links = [(at, "sum", 0, 0) for at in range(len(rows))]
-    return solved(["sum"], links, {at: row for at, row in enumerate(rows)})["sum"]
+    return solved(["sum"], links, {at: row for at, row in enumerate(rows)}, ["sum"])["sum"]
 
 
 def least(rows):
@@ -46,7 +46,7 @@ def behind(one, other):
     if len(one.first) + len(one.again) > len(other.first) + len(other.again):
         short, long = other, one
     turns, links = ladder(short, "long", "sum", "turn")
-    return solved(["sum", *turns], links, {"long": long})["sum"]
+    return solved([*turns, "sum"], links, {"long": long}, ["sum"])["sum"]
 
 
 def sum_at(one, other, n):
@@ -70,7 +70,7 @@ def star(row):
     if time is not None and time > 0:
         raise InvalidRow("first")
     turns, links = ladder(_without_start(row), "sum", "sum", "turn")
-    return solved(["sum", *turns], [("unit", "sum", 0, 0), *links], {"unit": unit()})["sum"]
+    return solved([*turns, "sum"], [("unit", "sum", 0, 0), *links], {"unit": unit()}, ["sum"])["sum"]
 
 
 def _without_start(row):

@@ -18,7 +18,8 @@ def needless(module):
 
 def courses_of(module):
     """The rows of all places by which a module goes: behind each inlet, and, as the last ones, for the clock."""
-    return all_courses(House([module]), module.name)
+    house = House([module])
+    return all_courses(house, module.name, house.flat(module.name)[0])
 
 
 def is_needless(module, at, courses):

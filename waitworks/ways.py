@@ -63,4 +63,4 @@ def closed(face, outlet, inlet, row):
 
 def _with_ways(face, ways, rows):
     """How outlets with these rows go, if all go by these ways, too: a dict."""
-    return net_solved([*face.outlets, START], [], ways, list(zip(face.outlets, rows)))
+    return net_solved([*face.outlets, START], [], ways, list(zip(face.outlets, rows)), face.outlets)
