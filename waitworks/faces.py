@@ -3,7 +3,7 @@
 from waitworks.checks import check_arrivals
 from waitworks.courses import all_courses
 from waitworks.errors import NeverGoes
-from waitworks.nets import net_solved
+from waitworks.nets import net_of, net_solved
 from waitworks.paths import ring_without_marks
 from waitworks.rows import unit
 from waitworks.sums import sum_at
@@ -42,18 +42,28 @@ def _told(inlets, outlets, answers, rest):
 def out(face, arrivals):
     """The goings of all outlets: a row for each."""
     check_arrivals(arrivals, face.inlets)
-    rows = _led_through(face, arrivals, face.clock)
+    rows = _led_through(face, _net_through(face), arrivals, face.clock)
     return tuple([rows[outlet] for outlet in face.outlets])
 
 
-def _led_through(one, rows, clock):
-    """What outlets have of rows at the inlets, and of a clock (if there are any of both): a dict."""
-    doors = [f"in {at}" for at in range(len(one.inlets))]
+def _net_through(one):
+    """The net from the inlets of a face to its outlets."""
+    doors = _doors(one)
     ways = []
     for outlet, parts in zip(one.outlets, one.rows):
         ways.extend([(door, outlet, part) for door, part in zip(doors, parts)])
-    coming = [*list(zip(doors, rows)), *list(zip(one.outlets, clock))]
-    return net_solved([*doors, *one.outlets], [], ways, coming, one.outlets)
+    return net_of([*doors, *one.outlets], [], ways)
+
+
+def _doors(one):
+    """Names for the inlets of a face that no outlet has."""
+    return [f"in {at}" for at in range(len(one.inlets))]
+
+
+def _led_through(one, net, rows, clock):
+    """What outlets have, through this net, of rows at the inlets, and of a clock (if there are any of both): a dict."""
+    coming = [*list(zip(_doors(one), rows)), *list(zip(one.outlets, clock))]
+    return net_solved(net, coming, one.outlets)
 
 
 def going_out(one, arrivals, at, n):
@@ -64,10 +74,11 @@ def going_out(one, arrivals, at, n):
 
 def in_row(one, other):
     """The face of both, with the outlets of the one as inlets of the other."""
+    net = _net_through(other)
     answers = []
     for at in range(len(one.inlets)):
-        answers.append(_led_through(other, [rows[at] for rows in one.rows], ()))
-    rest = _led_through(other, one.clock, other.clock)
+        answers.append(_led_through(other, net, [rows[at] for rows in one.rows], ()))
+    rest = _led_through(other, net, one.clock, other.clock)
     return _told(one.inlets, other.outlets, answers, rest)
 
 
@@ -87,16 +98,25 @@ def face_with(house, name, faces):
     ring = ring_without_marks(places, [*module.links, *at_once])
     if len(ring) > 0:
         raise NeverGoes(ring)
-    outlets = module.outlets
-    answers = [net_solved(places, module.links, ways, [(inlet, unit())], outlets) for inlet in module.inlets]
-    coming = [*[(place, unit()) for place in places], *clocks]
-    return _told(module.inlets, outlets, answers, net_solved(places, module.links, ways, coming, outlets))
+    net = net_of(places, module.links, ways)
+    answers = [net_solved(net, [(inlet, unit())], module.outlets) for inlet in module.inlets]
+    # What waits for a going with the same number is not ahead of 0 by this alone.
+    later_ones = {then: True for _, then, marks, _ in module.links if marks == 0}
+    later_ones.update({place: True for place, _ in clocks})
+    coming = [*[(place, unit()) for place in places if place not in later_ones], *clocks]
+    return _told(module.inlets, module.outlets, answers, net_solved(net, coming, module.outlets))
 
 
 def _faces_of_calls(house, module, faces):
     """The pairs of a label and the face of what is called there, for all calls."""
     told = dict(list(faces))
-    return [(label, told[label] if label in told else face(house, name)) for label, name in module.calls]
+    known = {}
+    called = []
+    for label, name in module.calls:
+        if label not in told and name not in known:
+            known[name] = face(house, name)
+        called.append((label, told[label] if label in told else known[name]))
+    return called
 
 
 def _ends_of_calls(called):

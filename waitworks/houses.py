@@ -87,7 +87,7 @@ class House:
 
     def levels(self, name):
         """The levels of all places of a module, each behind those that it waits for without marks: a dict."""
-        return dict(self._levels[self[name].name])
+        return self._levels[self[name].name]
 
     def __len__(self):
         return len(self.modules)

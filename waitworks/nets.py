@@ -5,11 +5,10 @@ from waitworks.paths import layers
 from waitworks.solving import solved
 
 
-def net_solved(places, links, ways, coming, wanted):
-    """The least rows of these places, for those that are wanted: a dict.
+def net_of(places, links, ways):
+    """The net of places that keep all links and ways (first, then, row): `then` is nowhere below `first` behind a row.
 
-    They keep all links, all ways (first, then, row): `then` is nowhere below `first` behind the row,
-    and what is coming, pairs of a place and a row that it is nowhere below.
+    It is a pair of all places, in an order in which links without marks lead forward, and of links.
     """
     steps = list(links)
     turns = []
@@ -17,10 +16,18 @@ def net_solved(places, links, ways, coming, wanted):
         inner, rungs = ladder(row, first, then, f"turn {at}")
         turns.extend(inner)
         steps.extend(rungs)
-    order = list(layers([*places, *turns], steps))
+    return list(layers([*places, *turns], steps)), steps
+
+
+def net_solved(net, coming, wanted):
+    """The least rows of those places of a net that are wanted: a dict.
+
+    What is coming are pairs of a place and a row that it is nowhere below.
+    """
+    order, links = net
     # What comes from outside gets numbers for names, which no place has.
-    steps.extend([(at, place, 0, 0) for at, (place, _) in enumerate(coming)])
-    return solved(order, steps, {at: row for at, (_, row) in enumerate(coming)}, wanted)
+    steps = [(at, place, 0, 0) for at, (place, _) in enumerate(coming)]
+    return solved(order, [*links, *steps], {at: row for at, (_, row) in enumerate(coming)}, wanted)
 
 
 def ladder(row, first, then, name):

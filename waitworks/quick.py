@@ -30,7 +30,7 @@ def quick_rows(order, links, given, wanted):
         for times in TURNS:
             begin = walk.begin_of_turn(walk.turn * times)
             if begin is not None:
-                return walk.rows(begin, walk.turn * times, wanted)
+                return walk.rows_from(begin, walk.turn * times, wanted)
         many += 1 + many // 6
     return None
 
@@ -71,14 +71,16 @@ class QuickWalk:
                 ways[then].append((first, self.times[first], marks, lasts, starts[first] + marks))
         for at, (first, then, marks, lasts) in enumerate(rows):
             row = given[first]
-            self.coming[at] = row
-            ways[then].append((at, _first_times(row), marks, lasts, nothings(row) + marks))
+            self.coming[at] = (row, [])
+            ways[then].append((at, self.coming[at][1], marks, lasts, nothings(row) + marks))
         self.steps = [(starts[place], floors.get(place), self.times[place], ways[place]) for place in self.times]
         self.ways = ways
         self.floors = floors
 
     def go(self, many):
         """Tell the goings of all places, up to so many of each."""
+        for row, times in self.coming.values():
+            _tell_times(row, times, many)
         for n in range(self.many, many):
             for start, floor, mine, ways in self.steps:
                 if n >= start:
@@ -104,7 +106,7 @@ class QuickWalk:
                 if mine[n + turn] - mine[n] != grow:
                     return None
             grows[place] = grow
-        for at, row in self.coming.items():
+        for at, (row, _) in self.coming.items():
             grows[at] = growth(row, turn)
         for place in self.times:
             if not self._is_reached(place, begin, grows):
@@ -128,7 +130,7 @@ class QuickWalk:
                     return False
         return True
 
-    def rows(self, begin, turn, wanted):
+    def rows_from(self, begin, turn, wanted):
         """The rows of those places that are wanted, if all goes on from this going on."""
         found = {}
         for place in wanted:
@@ -160,11 +162,10 @@ def _lead_starts(starts, links):
                     changed = True
 
 
-def _first_times(row):
-    """The first times of a row, as many as are walked at most."""
-    times = list(row.first)
-    add = 0
-    while len(times) < MOST_WALKED:
+def _tell_times(row, times, many):
+    """Tell the next times of a row, up to so many at least."""
+    if len(times) == 0:
+        times.extend(row.first)
+    while len(times) < many:
+        add = (len(times) - len(row.first)) // len(row.again) * row.more
         times.extend([time + add for time in row.again])
-        add += row.more
-    return times

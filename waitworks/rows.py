@@ -67,11 +67,12 @@ def _rises(things):
     """Whether these are times that never fall, with nothing at their beginning only."""
     last = None
     for thing in things:
-        if thing is not None and not is_integer(thing):
+        if thing is not None:
+            if not is_integer(thing) or (last is not None and thing < last):
+                return False
+            last = thing
+        elif last is not None:
             return False
-        if last is not None and (thing is None or thing < last):
-            return False
-        last = thing
     return True
 
 

@@ -3,7 +3,7 @@
 from waitworks.errors import InvalidRow, NoPlace
 from waitworks.faces import Face
 from waitworks.kinds import is_one_of
-from waitworks.nets import net_solved
+from waitworks.nets import net_of, net_solved
 from waitworks.partners import partner
 from waitworks.rows import Row, is_at_most
 from waitworks.sums import least
@@ -55,12 +55,8 @@ def closed(face, outlet, inlet, row):
     ways = [(outlet, START, row)]
     ways.extend([(START, place, rows[end]) for place, rows in zip(face.outlets, face.rows)])
     columns = [[rows[at] for rows in face.rows] for at in range(len(face.inlets))]
-    answers = [_with_ways(face, ways, column) for column in columns]
-    clock = _with_ways(face, ways, face.clock)
+    net = net_of([*face.outlets, START], [], ways)
+    answers = [net_solved(net, list(zip(face.outlets, column)), face.outlets) for column in columns]
+    clock = net_solved(net, list(zip(face.outlets, face.clock)), face.outlets)
     rows = [[answer[place] for answer in answers] for place in face.outlets]
     return Face(face.inlets, face.outlets, rows, [clock[place] for place in face.outlets])
-
-
-def _with_ways(face, ways, rows):
-    """How outlets with these rows go, if all go by these ways, too: a dict."""
-    return net_solved([*face.outlets, START], [], ways, list(zip(face.outlets, rows)), face.outlets)
