@@ -126,7 +126,18 @@ class MadeTest(unittest.TestCase):
             wanted = face(House([Module("m", ["a"], ["b"], ["s"], links)]), "m")
             self.assertEqual(face(House([made_of(wanted, "m")]), "m"), wanted)
         bare = face(House([Module("m", [], [], [], [])]), "m")
+        self.assertEqual(made_of(bare, "m").links, ())
         self.assertEqual(face(House([made_of(bare, "m")]), "m"), bare)
+
+
+    def test_long_rows(self):
+        # What grows more gets ahead only after hundreds of goings.
+        for quick, slow, late in (((1, 50), (1, 49), 500), ((2, 99), (1, 49), 300), ((2, 50), (3, 74), 400), ((1, 50), (1, 49), 50), ((3, 10), (3, 10), 5)):
+            links = [("i", "s", 0, 0), ("s", "s", *quick), ("s", "o", 0, 0), ("i", "t", 0, late), ("t", "t", *slow), ("t", "o", 1, 0)]
+            wanted = face(House([Module("m", ["i"], ["o"], ["s", "t"], links)]), "m")
+            made = made_of(wanted, "m")
+            self.assertEqual(face(House([made]), "m"), wanted)
+            self.assertLess(len(made.links), 300)
 
 
 if __name__ == "__main__":

@@ -8,7 +8,7 @@ from waitworks.partings import never_later
 
 def choices(house, name, menu):
     """All choices, ascending."""
-    return tuple(list(Menu(house, name, menu).houses))
+    return tuple(Menu(house, name, menu).options)
 
 
 def price(house, name, menu, choice):
@@ -25,7 +25,7 @@ def _menu_with(house, name, menu, choice):
 
 def chosen(house, name, menu, choice):
     """The house in which the module calls what is chosen."""
-    return _menu_with(house, name, menu, choice).houses[choice]
+    return _menu_with(house, name, menu, choice).house_of(choice)
 
 
 def chosen_face(house, name, menu, choice):
@@ -56,7 +56,7 @@ def cheapest(house, name, menu, goals):
     told = _menu_for(house, name, menu, goals)
     least = None
     found = []
-    for cost, choice in sorted([(told.price(choice), choice) for choice in list(told.houses)]):
+    for cost, choice in sorted([(told.price(choice), choice) for choice in told.options]):
         if least is not None and cost > least:
             break
         if first_refutation(told.face_of(choice), goals) is None:

@@ -1,20 +1,20 @@
 """What can be exchanged: calls, and the order of two modules; and a text for each face."""
 
-from itertools import combinations
-
 from waitworks.errors import NeverGoes
 from waitworks.faces import face, face_with, in_row
 from waitworks.houses import Module
 from waitworks.kinds import free_names
+from waitworks.lines import ONCE, lines_of
 from waitworks.partings import first_unlike
-from waitworks.rows import is_empty
 
 
 def swaps(house, name):
     """The pairs of labels, the lesser one ahead, of calls that can be exchanged while the face stays."""
     module = house[name]
     labels = sorted([label for label, _ in module.calls])
-    found = [(one, other) for one, other in combinations(labels, 2) if _can_swap(house, module, one, other)]
+    found = []
+    for at, one in enumerate(labels):
+        found.extend([(one, other) for other in labels[at + 1:] if _can_swap(house, module, one, other)])
     return tuple(found)
 
 
@@ -46,42 +46,30 @@ def first_change(one, other):
 
 def made_of(wanted, name):
     """Some module without calls that has this name and this face."""
-    rows = []
-    for outlet, answers, clock in zip(wanted.outlets, wanted.rows, wanted.clock):
-        rows.extend([(inlet, outlet, row) for inlet, row in zip(wanted.inlets, answers) if not is_empty(row)])
-        rows.append((None, outlet, clock))
+    lines = []
+    for outlet, rows, clock in zip(wanted.outlets, wanted.rows, wanted.clock):
+        for inlet, row in [*list(zip(wanted.inlets, rows)), (None, clock)]:
+            lines.extend([(inlet, outlet, pair, begins) for pair, begins in lines_of(row).items()])
     # The first station waits for nothing: it goes at 0 again and again.
-    names = free_names([*wanted.inlets, *wanted.outlets], len(rows) + 1)
+    names = free_names([*wanted.inlets, *wanted.outlets], len(lines) + 1)
     stations = [names[0]]
     links = []
-    for station, (first, outlet, row) in zip(names[1:], rows):
-        begin = names[0] if first is None else first
-        links.extend(_first_links(begin, outlet, row))
-        if row.more > 0:
+    for station, (inlet, outlet, pair, begins) in zip(names[1:], lines):
+        begin = names[0] if inlet is None else inlet
+        if pair == ONCE:
+            links.extend([(begin, outlet, n, time) for n, time in begins])
+        elif len(begins) > 0:
             stations.append(station)
-            links.extend(_ring_links(begin, station, outlet, row))
+            links.extend(_ring_links(begin, station, outlet, pair, begins))
     return Module(name, wanted.inlets, wanted.outlets, stations, links)
 
 
-def _first_links(begin, outlet, row):
-    """Links by which an outlet has what stands first in a row, and what stands there for ever."""
-    things = list(row.first)
-    if row.more == 0:
-        things.append(row.again[0])
-    found = []
-    last = None
-    for n, time in enumerate(things):
-        if time is not None and time != last:
-            found.append((begin, outlet, n, time))
-        last = time
-    return found
+def _ring_links(begin, station, outlet, pair, begins):
+    """Links by which an outlet has lines of a pair of a turn and its growth, by a ring at a station.
 
-
-def _ring_links(begin, station, outlet, row):
-    """Links by which an outlet has what comes again in a row, by a ring at a station.
-
-    The station has it from its going 0 on, from the time 0 on: so it is nowhere later by itself than the row.
+    At the station the first line begins with the going 0, at 0: so it is nowhere later by itself than this line.
     """
-    start = row.again[0]
-    links = [(begin, station, n, time - start) for n, time in enumerate(row.again)]
-    return [*links, (station, station, len(row.again), row.more), (station, outlet, len(row.first), start)]
+    turn, more = pair
+    start, least = min(begins)
+    links = [(begin, station, n - start, time - least) for n, time in begins]
+    return [*links, (station, station, turn, more), (station, outlet, start, least)]
