@@ -24,7 +24,7 @@ def courses_of(module):
 
 def is_needless(module, at, courses):
     """Whether all goes the same without a link; these are the rows by which it goes with it."""
-    first, then, marks, lasts = module.links[at]
+    first, then, _, _ = module.links[at]
     others = [link for number, link in enumerate(module.links) if link[1] == then and number != at]
     for rows in courses[:-1]:
         if not is_empty(rows[first]) and not _is_reached(rows, then, others, []):
@@ -33,9 +33,9 @@ def is_needless(module, at, courses):
 
 
 def _is_reached(rows, place, links, coming):
-    """Whether each time of a place, one that no other one waits for, comes by these links and rows.
+    """Whether each time of a place comes by these links and rows.
 
-    Then these are its rows without any other link, too: going by going nothing else can be told.
+    Then all goes so without any other link to it, too: going by going, nothing else can be told.
     """
     led = [later(rows[first], marks, lasts) for first, _, marks, lasts in links]
     return len(led) + len(coming) > 0 and greatest([*led, *coming]) == rows[place]

@@ -1,6 +1,6 @@
 """Works that are changed: deeds on the text of a house, which tell whose faces they change, and can be taken back."""
 
-from waitworks.errors import InvalidModule, NoPlace, Refused
+from waitworks.errors import NoPlace, Refused
 from waitworks.faces import face, face_with
 from waitworks.houses import House, Module
 from waitworks.kinds import is_link, is_one_of
