@@ -85,6 +85,7 @@ class SureTest(unittest.TestCase):
         self.assertEqual(day.several(some=[("i", 3), ("j", 0), ("i", 3)]), (1, 1, 2))
         self.assertEqual((day.arrivals, len(day)), (((3, 3), (0,)), 1))
         self.assertEqual((day.several(()), day.several([]), len(day)), ((), (), 1))
+        self.assertEqual((day.several([("j", 5)]), len(day), day.undo(), len(day)), ((2,), 2, True, 1))
         for value in ANY_VALUES:
             if value not in ([], ()):
                 self.assertEqual(error_of(self, Refused, day.several, value).at, 0)

@@ -59,9 +59,10 @@ class SwapTest(unittest.TestCase):
             house = House([*{part.name: part for part in parts}.values(), module])
             self.assertEqual(swaps(house, "m"), wanted)
         # Unlike inlets or outlets: neither can be called there.
-        other = Module("x", ["order"], ["o"], [], [])
-        house = House([LATER, other, Module("m", [], [], [], [], [("a", "late"), ("b", "x"), ("c", "late")])])
-        self.assertEqual(swaps(house, "m"), (("a", "c"),))
+        for inlets, outlets in ((["order"], ["o"]), (["i"], ["done"]), ([], ["done"]), (["order", "i"], ["done"])):
+            other = Module("x", inlets, outlets, [], [])
+            house = House([LATER, other, Module("m", [], [], [], [], [("a", "late"), ("b", "x"), ("c", "late")])])
+            self.assertEqual(swaps(house, "m"), (("a", "c"),))
         for value in ANY_VALUES:
             if value != "shop":
                 self.assertIs(error_of(self, NoPlace, swaps, HOUSE, value).name, value)

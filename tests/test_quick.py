@@ -54,6 +54,18 @@ class QuickTest(unittest.TestCase):
             self.assertEqual(things(found["a"], 150), wanted)
             self.assertEqual(things(found["b"], 150), [None] + wanted[:-1])
 
+    def test_what_is_led_on_late(self):
+        # When a goes on alike for long, c is still at what came first: it grows more than all that comes to it.
+        given = {0: Row([0, 7, 14, 21], [26], 5)}
+        for marks in (1, 2, 3, 4):
+            links = [(0, "a", marks, 0), ("a", "b", marks, 0), ("b", "c", marks, 2)]
+            found = solved(["a", "b", "c"], links, given, ["a", "c"])
+            self.assertEqual(found["a"], Row([None] * marks + [0, 7, 14, 21], [26], 5))
+            self.assertEqual(found["c"], Row([None] * (3 * marks) + [2, 9, 16, 23], [28], 5))
+            # Here something grows just so, but is not what reaches c at first.
+            found = solved(["a", "b", "c"], [*links, (1, "c", 3 * marks, 0)], {**given, 1: Row((), (0,), 7)}, ["c"])
+            self.assertEqual(found["c"], Row([None] * (3 * marks) + [2, 9, 16, 23], [28], 7))
+
     def test_long_turns(self):
         # What turns unlike for each place is left to the parts.
         links = [(0, place, 0, 0) for place in "abcd"] + [(place, place, turn, 7) for place, turn in zip("abcd", (5, 7, 8, 9))]

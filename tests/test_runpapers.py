@@ -3,12 +3,21 @@
 import random
 import unittest
 
+from waitworks.checker import holds
 from waitworks.houses import House, Module
 from waitworks.rows import Row, unit
-from waitworks.runpapers import run_holds, run_paper
+from waitworks.runpapers import run_holds as held, run_paper
 from waitworks.runs import run
 
 from models import ANY_VALUES, HOUSE, flat_by_hand, some_arrivals, some_house
+
+
+def run_holds(house, name, arrivals, value):
+    """Whether a paper holds: the checker, that walks goings, says the same."""
+    found = held(house=house, name=name, arrivals=arrivals, value=value)
+    if holds(house, name, "run", (arrivals,), value) is not found:
+        raise AssertionError((str(house), name, value))
+    return found
 
 
 class PaperTest(unittest.TestCase):
@@ -61,6 +70,27 @@ class PaperTest(unittest.TestCase):
         self.assertEqual(str(dict(run(house, "m", arrivals))["s"]), "| 0 + 5")
         for begin in range(1, 10):
             self.assertIs(run_holds(house, "m", arrivals, (begin, 1, (("i", 0), ("j", 5), ("s", 5)))), begin >= 5)
+
+    def test_what_goes_on_only_for_a_while(self):
+        # What comes from t grows more: it gets ahead of what comes from u only later.
+        house = House([Module("m", [], [], ["s", "t", "u"], [("t", "s", 0, 0), ("u", "s", 0, 20), ("t", "t", 1, 5), ("u", "u", 1, 3)])])
+        for begin in range(1, 10):
+            self.assertIs(run_holds(house, "m", [], (begin, 1, (("s", 3), ("t", 5), ("u", 3)))), False)
+        # When a goes on alike for long, c is still at what came first: nothing that comes to it grows so.
+        house = House([Module("m", ["i"], [], ["a", "b", "c"], [("i", "a", 3, 0), ("a", "b", 3, 0), ("b", "c", 3, 2)])])
+        arrivals = [Row([0, 7, 14, 21], [26], 5)]
+        for begin in range(20):
+            self.assertIs(run_holds(house, "m", arrivals, (begin, 1, (("a", 5), ("b", 5), ("c", 7), ("i", 5)))), False)
+            self.assertIs(run_holds(house, "m", arrivals, (begin, 1, (("a", 5), ("b", 5), ("c", 5), ("i", 5)))), begin >= 15)
+        # Arrivals have to go on for ever, not for one turn only.
+        house = House([Module("m", ["i"], [], ["s"], [("i", "s", 0, 1)])])
+        for arrivals in ([Row([0, 5, 10, 15], [16], 0)], [Row([0, 5, 10, 15], [20], 6)], [Row([0, 5, 10, 15], [20, 25, 30, 36], 20)]):
+            for begin in range(6):
+                self.assertIs(run_holds(house, "m", arrivals, (begin, 1, (("i", 5), ("s", 5)))), False)
+        # What stays at 0 reaches itself, and what stays with its going ahead, too.
+        house = House([Module("m", [], [], ["s", "t"], [("s", "t", 2, 5)])])
+        for begin in range(8):
+            self.assertIs(run_holds(house, "m", [], (begin, 1, (("s", 0), ("t", 0)))), begin >= 4)
 
     def test_papers_that_are_made(self):
         rng = random.Random(2)
